@@ -1,0 +1,1 @@
+"""Depotday: vehicles on a clock that comes round, one cable, and turns, kept for ever."""

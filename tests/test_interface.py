@@ -1,0 +1,85 @@
+"""The opening of "The interface": names, arguments and places are as written there."""
+
+import importlib
+import inspect
+import unittest
+
+FUNCTIONS = {
+    "names.is_name": "text",
+    "means.heaviest": "book weights",
+    "means.most_in": "book weights rounds",
+}
+CLASSES = {
+    "loads.Load": "counts",
+    "books.Book": "pages starts",
+    "means.Heavy": None,
+    "nets.Net": "round_length events spans",
+}
+METHODS = {
+    "loads.Load.put": "minute count",
+    "loads.Load.capped": "width",
+    "loads.Load.within": "other",
+    "loads.Load.zero": "length",
+    "loads.Load.of": "length begin minutes",
+    "books.Book.lines_of": "index",
+    "books.Book.followers_of": "index",
+    "books.Book.index": "name",
+    "books.Book.is_walk": "names",
+    "books.Book.walks": "rounds",
+    "books.Book.count_walks": "rounds",
+    "books.Book.reachable": "",
+    "nets.Net.plus": "*spans",
+    "nets.Net.without": "*numbers",
+    "nets.Net.pieces": "",
+}
+SIGNS = {
+    "loads.Load": "len iter getitem setitem contains bool abs eq add iadd sub or and xor mul rmul floordiv mod "
+                  "lshift rshift",
+    "books.Book": "len eq",
+    "nets.Net": "eq",
+}
+
+
+def find(path):
+    """What stands under a dotted name of the package."""
+    file, *names = path.split(".")
+    found = importlib.import_module("depotday." + file)
+    for name in names:
+        found = getattr(found, name)
+    return found
+
+
+def arguments(found):
+    return " ".join(str(parameter) for parameter in inspect.signature(found).parameters.values())
+
+
+class Interface(unittest.TestCase):
+    def test_functions(self):
+        for path, wanted in FUNCTIONS.items():
+            self.assertEqual(arguments(find(path)), wanted, path)
+
+    def test_classes(self):
+        for path, wanted in CLASSES.items():
+            self.assertTrue(inspect.isclass(find(path)), path)
+            if wanted is not None:
+                self.assertEqual(arguments(find(path)), wanted, path)
+
+    def test_each_is_defined_in_its_own_file(self):
+        for path in list(FUNCTIONS) + list(CLASSES):
+            self.assertEqual(find(path).__module__, "depotday." + path.split(".")[0])
+
+    def test_methods_stand_in_the_class_itself(self):
+        for path, wanted in METHODS.items():
+            owner, name = path.rsplit(".", 1)
+            self.assertIn(name, vars(find(owner)))
+            own = isinstance(vars(find(owner))[name], (staticmethod, classmethod))
+            self.assertEqual(arguments(find(path)), wanted if own else ("self " + wanted).strip(), path)
+
+    def test_signs_stand_in_the_class_itself(self):
+        for path, names in SIGNS.items():
+            for name in names.split():
+                self.assertIn("__" + name + "__", vars(find(path)), path)
+
+
+if __name__ == "__main__":
+    unittest.main()
