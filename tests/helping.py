@@ -1,12 +1,18 @@
 """What several tests use."""
 
+import itertools
+import pickle
 import random
 import unittest
 
 from depotday.books import Book
+from depotday.clocks import Clock
 from depotday.errors import DepotError
+from depotday.lines import Line
+from depotday.nets import Net
 
 EIGHT = list("abcdefgh")
+GREAT = 10 ** 9
 
 
 def random_book(chance):
@@ -22,6 +28,62 @@ def some_books():
     return [random_book(chance) for _ in range(60)]
 
 
+def random_span(chance, length, events):
+    start, end = chance.sample(range(events), 2)
+    least = chance.choice((0, 1, 2, chance.randint(0, 9)))
+    return start, end, least, least + chance.randint(0, length - 1)
+
+
+def random_net(chance, lengths=(2, 5), events=(0, 4), spans=(0, 6)):
+    """A net in which often no timetable keeps all spans, and often several spans join the same events."""
+    length, number = chance.randint(*lengths), chance.randint(*events)
+    many = chance.randint(*spans) if number > 1 else 0
+    return Net(length, number, [random_span(chance, length, number) for _ in range(many)])
+
+
+def some_nets(seed, number=150):
+    chance = random.Random(seed)
+    return [random_net(chance) for _ in range(number)]
+
+
+def random_line(chance, name, length, full=6):
+    least = chance.randint(1, 2 * length)
+    most = min(2 * length, least + chance.randint(0, length - 1))
+    return Line(name, least, most, chance.randint(0, full), chance.randint(0, min(3, length - 1)))
+
+
+def random_tie(chance, length, names):
+    events = [(name, side) for name in names for side in ("out", "home")]
+    start, end = chance.sample(events, 2)
+    least = chance.randint(0, length)
+    return (*start, *end, least, least + chance.randint(length // 2, length - 1))
+
+
+def random_clock(chance, lengths=(2, 6), lines=(1, 4), ties=(0, 3), full=6):
+    length = chance.randint(*lengths)
+    names = EIGHT[:chance.randint(*lines)]
+    return Clock(length, [random_line(chance, name, length, full) for name in names],
+                 [random_tie(chance, length, names) for _ in range(chance.randint(*ties))])
+
+
+def some_clocks(seed, number=60):
+    """Small clocks, so that all their timetables can be looked at."""
+    chance = random.Random(seed)
+    return [random_clock(chance, lines=(1, 2)) for _ in range(number)]
+
+
+def all_times(net):
+    """All timetables of a net, as lists."""
+    return [list(times) for times in itertools.product(range(net.round_length), repeat=net.events)]
+
+
+def kept_times(net):
+    """All timetables that keep a net, found without the program's own words for it."""
+    return [times for times in all_times(net)
+            if all((times[end] - times[start] - least) % net.round_length <= most - least
+                   for start, end, least, most in net.spans)]
+
+
 class Case(unittest.TestCase):
     """A test case that can look at refusals."""
 
@@ -31,6 +93,14 @@ class Case(unittest.TestCase):
             call(*args, **more)
         self.assertIs(type(caught.exception), error)
         self.assertEqual(list(vars(caught.exception).values()), list(values))
+
+    def keeps(self, call, *args, **more):
+        """The call changes nothing of what it is passed or called on; what it returns is returned."""
+        told = (getattr(call, "__self__", None), args, more)
+        before = pickle.dumps(told)
+        found = call(*args, **more)
+        self.assertEqual(pickle.dumps(told), before)
+        return found
 
     def fresh(self, read, change):
         """What `read` returns is new each time: changing it has no effect."""

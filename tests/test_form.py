@@ -17,8 +17,14 @@ METHODS = """append clear copy count endswith extend find get index insert isaln
 LIBRARY = {"math": ["gcd"], "heapq": ["heappush", "heappop"], "collections": ["deque", "defaultdict"]}
 WORDS = """typing enum Enum Flag Generic Protocol ABC namedtuple NamedTuple TypedDict register mro elements open input
     law""".split()
+# An interactive reader, as a doctest is one, adds the name _ to the builtins.
+ALL_BUILTINS = set(dir(builtins)) - {"_"}
+DECORATORS = ("property", "staticmethod", "classmethod")
+# Methods that an operator, a property and the like must not use on what they did not create.
+CHANGING = ("append", "clear", "extend", "insert", "pop", "remove", "reverse", "setdefault", "update", "put")
 # Generator expressions are let in few places only, so lists stand for them everywhere.
-FORBIDDEN = (ast.GeneratorExp, ast.AsyncFunctionDef, ast.Await, ast.AsyncFor, ast.AsyncWith, ast.Import, ast.Div)
+FORBIDDEN = (ast.GeneratorExp, ast.AsyncFunctionDef, ast.Await, ast.AsyncFor, ast.AsyncWith, ast.Import, ast.Div,
+             ast.Pow, ast.Global, ast.AnnAssign)
 
 
 def trees():
@@ -88,11 +94,12 @@ class Form(unittest.TestCase):
 
     def test_builtins(self):
         for place, node in nodes():
-            if isinstance(node, ast.Name) and hasattr(builtins, node.id):
+            if isinstance(node, ast.Name) and node.id in ALL_BUILTINS:
                 self.assertIn(node.id, BUILTINS, place)
                 self.assertIsInstance(node.ctx, ast.Load, place)
             if isinstance(node, ast.arg):
-                self.assertFalse(hasattr(builtins, node.arg), place)
+                self.assertNotIn(node.arg, ALL_BUILTINS, place)
+                self.assertIsNone(node.annotation, place)
 
     def test_methods(self):
         own = {node.name for _, node in nodes() if isinstance(node, ast.FunctionDef)}
@@ -104,6 +111,109 @@ class Form(unittest.TestCase):
         for place, node in nodes():
             names = [getattr(node, field, None) for field in ("id", "attr", "arg", "name")]
             self.assertFalse(set(WORDS) & set(name for name in names if isinstance(name, str)), place)
+
+
+    def test_no_local_name_hides_a_class_or_an_import(self):
+        for path, tree in trees():
+            taken = {node.name for node in tree.body if isinstance(node, ast.ClassDef)}
+            taken |= {alias.name for node in tree.body if isinstance(node, ast.ImportFrom) for alias in node.names}
+            for function in ast.walk(tree):
+                if isinstance(function, ast.FunctionDef):
+                    self.assertEqual(local_names(function) & taken, set(), f"{path.name}: {function.name}")
+
+    def test_no_files_import_each_other(self):
+        froms = {path.stem: {node.module.split(".")[1] for node in tree.body if isinstance(node, ast.ImportFrom)
+                             and node.module.startswith("depotday.")} for path, tree in trees()}
+        while froms:
+            free = [name for name in froms if not froms[name] & set(froms)]
+            self.assertTrue(free, froms)
+            for name in free:
+                del froms[name]
+
+    def test_is_stands_beside_plain_values_only(self):
+        for place, node in nodes():
+            if isinstance(node, ast.Compare) and any(isinstance(op, (ast.Is, ast.IsNot)) for op in node.ops):
+                self.assertIsInstance(node.comparators[0], ast.Constant, place)
+
+    def test_methods_and_attributes_have_different_names(self):
+        for path, tree in trees():
+            for owner in ast.walk(tree):
+                if isinstance(owner, ast.ClassDef):
+                    methods = {node.name for node in owner.body if isinstance(node, ast.FunctionDef)}
+                    self.assertEqual(methods & assigned_attributes(owner), set(), f"{path.name}: {owner.name}")
+
+    def test_properties_have_names_of_their_own(self):
+        functions = [node for _, node in nodes() if isinstance(node, ast.FunctionDef)]
+        properties = {node.name for node in functions if words_over(node) == ["property"]}
+        fixed = {node.name for node in functions if words_over(node) in (["staticmethod"], ["classmethod"])}
+        others = {node.name for node in functions if not words_over(node)}
+        attributes = set().union(*[assigned_attributes(tree) for _, tree in trees()])
+        self.assertEqual((properties | fixed) & (others | attributes), set())
+        self.assertEqual(properties & fixed, set())
+
+    def test_decorators(self):
+        for place, node in nodes():
+            if isinstance(node, (ast.FunctionDef, ast.ClassDef)):
+                self.assertTrue(all(word in DECORATORS for word in words_over(node)), place)
+
+    def test_sets_and_reversed(self):
+        for path, tree in trees():
+            inside = {id(argument): node.func.id for node in ast.walk(tree) if isinstance(node, ast.Call)
+                      and isinstance(node.func, ast.Name) for argument in node.args}
+            for node in ast.walk(tree):
+                place = f"{path.name}:{getattr(node, 'lineno', 0)}"
+                if isinstance(node, ast.Call) and getattr(node.func, "id", "") == "set":
+                    self.assertIn(inside.get(id(node)), ("sorted", "len"), place)
+                if isinstance(node, ast.Call) and getattr(node.func, "id", "") == "reversed":
+                    found = getattr(getattr(node.args[0], "func", None), "id", "")
+                    self.assertIn(found, ("list", "tuple", "sorted", "range"), place)
+                self.assertNotIsInstance(node, (ast.Set, ast.SetComp), place)
+
+    def test_what_operators_and_properties_run_changes_nothing(self):
+        functions = {}
+        for _, node in nodes():
+            if isinstance(node, ast.FunctionDef):
+                functions.setdefault(node.name, []).append(node)
+        waiting = [node for _, node in nodes() if isinstance(node, ast.FunctionDef) and is_quiet(node)]
+        seen = []
+        while waiting:
+            node = waiting.pop()
+            if node not in seen:
+                seen.append(node)
+                waiting += [other for name in called_names(node) for other in functions.get(name, [])
+                            if name not in METHODS and other.name != "__init__"]
+        for node in seen:
+            place = f"{node.name}:{node.lineno}"
+            self.assertFalse(set(called_names(node)) & set(CHANGING), place)
+            self.assertFalse(any(isinstance(part, ast.AugAssign) for part in ast.walk(node)), place)
+            self.assertEqual(assigned_attributes(node), set(), place)
+
+
+def words_over(node):
+    return [getattr(word, "id", "?") for word in node.decorator_list]
+
+
+def is_quiet(node):
+    """True for what must change nothing: operators, properties, comparisons and the like."""
+    return node.name[:2] == "__" and node.name not in ("__init__", "__iadd__", "__setitem__") or bool(
+        words_over(node) == ["property"])
+
+
+def called_names(node):
+    return [getattr(part.func, "id", getattr(part.func, "attr", "")) for part in ast.walk(node)
+            if isinstance(part, ast.Call)]
+
+
+def assigned_attributes(tree):
+    return {node.attr for node in ast.walk(tree) if isinstance(node, ast.Attribute) and isinstance(node.ctx, ast.Store)}
+
+
+def local_names(function):
+    """Parameters and everything that a function assigns, the functions nested in it included."""
+    names = {node.arg for node in ast.walk(function) if isinstance(node, ast.arg)}
+    names |= {node.id for node in ast.walk(function) if isinstance(node, ast.Name) and isinstance(node.ctx, ast.Store)}
+    nested = {node.name for node in ast.walk(function) if isinstance(node, ast.FunctionDef) and node is not function}
+    return names | nested
 
 
 if __name__ == "__main__":

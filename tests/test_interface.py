@@ -8,12 +8,29 @@ FUNCTIONS = {
     "names.is_name": "text",
     "means.heaviest": "book weights",
     "means.most_in": "book weights rounds",
+    "timing.check_times": "net times",
+    "timing.passed": "net times number",
+    "timing.broken": "net times",
+    "paths.path_ends": "net path",
+    "paths.is_ring": "net path",
+    "paths.path_minutes": "net times path",
+    "paths.ring_rounds": "net times ring",
+    "bases.rounds": "net times",
+    "bases.parts": "net ring",
+    "islands.choices": "net",
+    "islands.earliest": "net rounds",
+    "islands.shuts": "net rounds ring",
+    "islands.islands": "net",
+    "islands.ring_range": "net ring",
 }
 CLASSES = {
     "loads.Load": "counts",
     "books.Book": "pages starts",
     "means.Heavy": None,
     "nets.Net": "round_length events spans",
+    "bases.Base": "net",
+    "lines.Line": "name least most use late",
+    "clocks.Clock": "round_length lines ties=()",
 }
 METHODS = {
     "loads.Load.put": "minute count",
@@ -31,12 +48,21 @@ METHODS = {
     "nets.Net.plus": "*spans",
     "nets.Net.without": "*numbers",
     "nets.Net.pieces": "",
+    "bases.Base.rings": "",
+    "bases.Base.path": "first second",
+    "clocks.Clock.index": "name",
+    "clocks.Clock.event": "name side",
+    "clocks.Clock.net": "",
+    "clocks.Clock.sure_net": "",
 }
 SIGNS = {
     "loads.Load": "len iter getitem setitem contains bool abs eq add iadd sub or and xor mul rmul floordiv mod "
                   "lshift rshift",
     "books.Book": "len eq",
     "nets.Net": "eq",
+    "bases.Base": "len",
+    "lines.Line": "str eq",
+    "clocks.Clock": "eq",
 }
 
 

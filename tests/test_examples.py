@@ -1,0 +1,40 @@
+"""The examples of the interface, as they stand there."""
+
+import doctest
+import unittest
+
+EXAMPLES = """
+>>> from depotday.loads import Load
+>>> load = Load.of(3, 2, 4)
+>>> [list(load), list(load << 1), abs(load.capped(1))]
+[[1, 1, 2], [1, 2, 1], 3]
+
+>>> from depotday.books import Book
+>>> from depotday.means import heaviest, most_in
+>>> book = Book([("day", ["a", "b"], ["day", "night"]), ("night", [], ["day"])], ["night"])
+>>> heavy = heaviest(book, {"a": 2, "b": 1})
+>>> [heavy.mean, heavy.ring, heavy.worths, most_in(book, {"a": 2, "b": 1}, 3)]
+[(3, 1), ['day'], [0, 0], 6]
+
+>>> from depotday.nets import Net
+>>> from depotday.timing import passed, broken
+>>> net = Net(10, 3, [(0, 1, 2, 4), (1, 2, 3, 3), (0, 2, 7, 9)])
+>>> [passed(net, [0, 3, 6], 0), passed(net, [0, 3, 6], 2), broken(net, [0, 3, 6])]
+[3, 16, [2]]
+
+>>> from depotday.bases import Base
+>>> from depotday.islands import choices, earliest, islands
+>>> [Base(net).rings(), choices(net), earliest(net, [0]), islands(net)]
+[[[(2, 1), (1, -1), (0, -1)]], [(0, 0)], [0, 4, 7], [[0]]]
+"""
+
+
+class Examples(unittest.TestCase):
+    def test_examples(self):
+        examples = doctest.DocTestParser().get_doctest(EXAMPLES, {}, "interface", "interface", 0)
+        self.assertTrue(examples.examples)
+        self.assertEqual(doctest.DocTestRunner().run(examples).failed, 0)
+
+
+if __name__ == "__main__":
+    unittest.main()
