@@ -6,20 +6,24 @@ import random
 import unittest
 
 from depotday.books import Book
+from depotday.cables import Cable
 from depotday.clocks import Clock
-from depotday.errors import DepotError
+from depotday.days import Day
+from depotday.depots import Depot
+from depotday.errors import BrokenSpan, DepotError
 from depotday.lines import Line
 from depotday.nets import Net
+from depotday.turns import Turns
 
 EIGHT = list("abcdefgh")
 GREAT = 10 ** 9
 
 
-def random_book(chance):
+def random_book(chance, lines=EIGHT):
     """A book with up to four pages, in which some may never be reached."""
     names = chance.sample(["day", "night", "a", "b", "sunday"], chance.randint(1, 4))
-    pages = [(name, chance.sample(EIGHT, chance.randint(0, 8)), chance.sample(names, chance.randint(1, len(names))))
-             for name in names]
+    pages = [(name, chance.sample(lines, chance.randint(0, len(lines))),
+              chance.sample(names, chance.randint(1, len(names)))) for name in names]
     return Book(pages, chance.sample(names, chance.randint(1, len(names))))
 
 
@@ -82,6 +86,37 @@ def kept_times(net):
     return [times for times in all_times(net)
             if all((times[end] - times[start] - least) % net.round_length <= most - least
                    for start, end, least, most in net.spans)]
+
+
+def random_depot(chance, plain=False, **more):
+    clock = random_clock(chance, **more)
+    names = [line.name for line in clock.lines]
+    book = Book([("day", names, ["day"])], ["day"]) if plain else random_book(chance, names)
+    pairs = [(first, second) for first in names for second in names]
+    turns = Turns(chance.choice((None, 0, 1, 4)), chance.choices(names, k=chance.randint(1, 5)),
+                  chance.sample(pairs, chance.randint(0, min(3, len(pairs)))))
+    full = chance.randint(max(line.use for line in clock.lines), 6)
+    return Depot(clock, Cable(chance.randint(0, 4), full), turns, book)
+
+
+def random_day(chance, **more):
+    """A depot with a timetable that keeps its runs and makes its ties sure."""
+    while True:
+        depot = random_depot(chance, **more)
+        for _ in range(20):
+            times = []
+            for line in depot.clock.lines:
+                out = chance.randrange(depot.clock.round_length)
+                times += [out, (out + chance.randint(line.least, line.most)) % depot.clock.round_length]
+            try:
+                return Day(depot, times)
+            except BrokenSpan:
+                continue
+
+
+def some_days(seed, number=60, **more):
+    chance = random.Random(seed)
+    return [random_day(chance, **more) for _ in range(number)]
 
 
 class Case(unittest.TestCase):

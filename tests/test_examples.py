@@ -26,6 +26,25 @@ EXAMPLES = """
 >>> from depotday.islands import choices, earliest, islands
 >>> [Base(net).rings(), choices(net), earliest(net, [0]), islands(net)]
 [[[(2, 1), (1, -1), (0, -1)]], [(0, 0)], [0, 4, 7], [[0]]]
+
+>>> from depotday.lines import Line
+>>> from depotday.clocks import Clock
+>>> from depotday.lateness import late_break, slack
+>>> clock = Clock(5, [Line("a", 2, 2, 1, 1), Line("b", 1, 1, 0, 0)], [("a", "home", "b", "out", 0, 3)])
+>>> [late_break(clock, [0, 2, 2, 3]), late_break(clock, [0, 2, 3, 4]), slack(clock, [0, 2, 3, 4])]
+[(0, 1, 0), None, 0]
+
+>>> from depotday.depottext import read_depot, depot_text
+>>> text = "round 3\\nline a 2 2 use 1 late 1\\ncable 1 2\\npatience 0\\nvehicle a\\npage day a > day\\nstart day"
+>>> depot_text(read_depot(text)) == text
+True
+
+>>> from depotday.errors import BadLine
+>>> try:
+...     read_depot("round 3\\nline a 2 2 use 1 late 3")
+... except BadLine as error:
+...     print(error.number)
+2
 """
 
 

@@ -22,6 +22,10 @@ FUNCTIONS = {
     "islands.shuts": "net rounds ring",
     "islands.islands": "net",
     "islands.ring_range": "net ring",
+    "lateness.late_break": "clock times",
+    "lateness.slack": "clock times",
+    "depottext.depot_text": "depot",
+    "depottext.read_depot": "text",
 }
 CLASSES = {
     "loads.Load": "counts",
@@ -31,6 +35,10 @@ CLASSES = {
     "bases.Base": "net",
     "lines.Line": "name least most use late",
     "clocks.Clock": "round_length lines ties=()",
+    "cables.Cable": "width full",
+    "turns.Turns": "patience vehicles bars=()",
+    "depots.Depot": "clock cable turns book",
+    "days.Day": "depot times",
 }
 METHODS = {
     "loads.Load.put": "minute count",
@@ -54,6 +62,13 @@ METHODS = {
     "clocks.Clock.event": "name side",
     "clocks.Clock.net": "",
     "clocks.Clock.sure_net": "",
+    "depots.Depot.wanted": "page",
+    "depots.Depot.is_barred": "last line",
+    "depots.Depot.changed": "**more",
+    "days.Day.of": "depot rounds",
+    "days.Day.leaving": "page minute",
+    "days.Day.changed": "**more",
+    "days.Day.turned": "minutes",
 }
 SIGNS = {
     "loads.Load": "len iter getitem setitem contains bool abs eq add iadd sub or and xor mul rmul floordiv mod "
@@ -63,6 +78,13 @@ SIGNS = {
     "bases.Base": "len",
     "lines.Line": "str eq",
     "clocks.Clock": "eq",
+    "cables.Cable": "eq",
+    "turns.Turns": "eq",
+    "depots.Depot": "eq",
+    "days.Day": "eq",
+}
+PROPERTIES = {
+    "depots.Depot": "free plain ringed",
 }
 
 
@@ -105,6 +127,12 @@ class Interface(unittest.TestCase):
         for path, names in SIGNS.items():
             for name in names.split():
                 self.assertIn("__" + name + "__", vars(find(path)), path)
+
+
+    def test_properties_stand_in_the_class_itself(self):
+        for path, names in PROPERTIES.items():
+            for name in names.split():
+                self.assertIsInstance(vars(find(path))[name], property, path)
 
 
 if __name__ == "__main__":
