@@ -7,6 +7,7 @@ import unittest
 
 from depotday.books import Book
 from depotday.cables import Cable
+from depotday.chains import Chain
 from depotday.clocks import Clock
 from depotday.days import Day
 from depotday.depots import Depot
@@ -117,6 +118,25 @@ def random_day(chance, **more):
 def some_days(seed, number=60, **more):
     chance = random.Random(seed)
     return [random_day(chance, **more) for _ in range(number)]
+
+
+def random_chain(chance, day, more=1):
+    """A chain whose waits are those of the shortest one, somewhat greater, or now and then too few."""
+    nexts = list(range(len(day.outs)))
+    chance.shuffle(nexts)
+    short = Chain.shortest(day, nexts)
+    return Chain(day, nexts, [max(0, wait + chance.choice((0, 0, 0, 0, -1, more))) for wait in short.waits])
+
+
+def some_fitting_chains(seed, number=80, **more):
+    chance = random.Random(seed)
+    chains = [random_chain(chance, day, chance.choice((1, 1, 2))) for day in some_days(seed, 2 * number, **more)]
+    return [chain for chain in chains if chain.fits][:number]
+
+
+def with_cable(day, width, full):
+    """The same day at another cable."""
+    return day.changed(width=width, full=full)
 
 
 class Case(unittest.TestCase):

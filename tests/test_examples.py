@@ -45,6 +45,12 @@ True
 ... except BadLine as error:
 ...     print(error.number)
 2
+
+>>> from depotday.days import Day
+>>> from depotday.ringed import ring_answer, ring_chain
+>>> day = Day(read_depot(text), [0, 2])
+>>> [day.runs, day.tardy, ring_chain(day).waits, ring_chain(day).stays, ring_answer(day)]
+[(2,), (3,), (1,), (0,), ('cut', (0,))]
 """
 
 

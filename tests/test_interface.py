@@ -26,6 +26,16 @@ FUNCTIONS = {
     "lateness.slack": "clock times",
     "depottext.depot_text": "depot",
     "depottext.read_depot": "text",
+    "outs.out_load": "day",
+    "outs.peak": "day",
+    "fewest.least_chain": "day",
+    "cuts.need": "chain lines",
+    "cuts.give": "chain lines *, width=None",
+    "cuts.overdrawn": "chain *, width=None",
+    "cuts.least_width": "chain",
+    "roundplans.round_plan": "chain *, width=None",
+    "ringed.ring_chain": "day",
+    "ringed.ring_answer": "day",
 }
 CLASSES = {
     "loads.Load": "counts",
@@ -39,6 +49,8 @@ CLASSES = {
     "turns.Turns": "patience vehicles bars=()",
     "depots.Depot": "clock cable turns book",
     "days.Day": "depot times",
+    "chains.Chain": "day nexts waits",
+    "roundplans.RoundPlan": "chain charges carries *, width=None",
 }
 METHODS = {
     "loads.Load.put": "minute count",
@@ -69,6 +81,15 @@ METHODS = {
     "days.Day.leaving": "page minute",
     "days.Day.changed": "**more",
     "days.Day.turned": "minutes",
+    "chains.Chain.shortest": "day nexts",
+    "chains.Chain.rings": "",
+    "chains.Chain.ring_fleets": "",
+    "chains.Chain.stay_load": "line",
+    "chains.Chain.home_load": "",
+    "chains.Chain.net": "",
+    "chains.Chain.timetable": "",
+    "roundplans.RoundPlan.at": "minute",
+    "roundplans.RoundPlan.level": "line place",
 }
 SIGNS = {
     "loads.Load": "len iter getitem setitem contains bool abs eq add iadd sub or and xor mul rmul floordiv mod "
@@ -82,9 +103,12 @@ SIGNS = {
     "turns.Turns": "eq",
     "depots.Depot": "eq",
     "days.Day": "eq",
+    "chains.Chain": "eq",
+    "roundplans.RoundPlan": "eq",
 }
 PROPERTIES = {
     "depots.Depot": "free plain ringed",
+    "chains.Chain": "fits fleet",
 }
 
 
@@ -98,7 +122,14 @@ def find(path):
 
 
 def arguments(found):
-    return " ".join(str(parameter) for parameter in inspect.signature(found).parameters.values())
+    """The parameters as they stand in a `def`, with a bare star before those that are passed by name only."""
+    words, starred = [], False
+    for parameter in inspect.signature(found).parameters.values():
+        if parameter.kind == parameter.KEYWORD_ONLY and not starred:
+            words.append("*,")
+        starred = starred or parameter.kind in (parameter.KEYWORD_ONLY, parameter.VAR_POSITIONAL)
+        words.append(str(parameter))
+    return " ".join(words)
 
 
 class Interface(unittest.TestCase):
