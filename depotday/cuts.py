@@ -75,7 +75,6 @@ def overdrawn(chain, *, width=None):
 
 def least_width(chain):
     """The least width for which no set of lines is overdrawn, None if there is none."""
-    check_stays(chain)
     # More width than vehicles are ever at home gives nothing more.
     for width in range(max(chain.home_load()) + 1):
         if overdrawn(chain, width=width) is None:

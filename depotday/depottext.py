@@ -96,7 +96,7 @@ def read_line(reading, words):
 
 def read_tie(reading, words):
     check_form(reading, len(words) == 7)
-    reading.ties.append((*words[1:5], number_of(words[5]), number_of(words[6])))
+    reading.ties.append(tuple(words[1:5]) + (number_of(words[5]), number_of(words[6])))
     Clock(reading.round_length, reading.lines, reading.ties)
 
 

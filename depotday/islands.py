@@ -2,7 +2,7 @@
 
 from depotday.bases import Base, parts
 from depotday.errors import BadRounds, ShutRing, TooMany
-from depotday.paths import check_ring, is_ring
+from depotday.paths import is_ring
 
 MOST_LISTS = 200
 
@@ -118,7 +118,6 @@ def islands(net):
 
 def ring_range(net, ring):
     """The least and the greatest rounds of a ring by any timetable, None if there is no timetable."""
-    check_ring(net, ring)
     shares = parts(net, ring)
     found = [sum([part * number for part, number in zip(shares, row)]) for row in islands(net)]
     return (min(found), max(found)) if found else None

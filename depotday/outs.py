@@ -31,18 +31,18 @@ def out_counts(day, walk):
 
 def short_walks(book, last):
     """Walks, short ones first, one for each list of at most so many pages that can be the last of a walk."""
-    walks = [[page] for page in book.starts]
+    newest = [[page] for page in book.starts]
     seen = {}
     found = []
-    while walks:
+    while newest:
         longer = []
-        for walk in walks:
+        for walk in newest:
             ending = tuple(walk[-last:])
             if ending not in seen:
                 seen[ending] = True
                 found.append(walk)
                 longer.extend([walk + [after] for after in book.followers_of(walk[-1])])
-        walks = longer
+        newest = longer
     return found
 
 
