@@ -11,6 +11,7 @@ from depotday.chains import Chain
 from depotday.clocks import Clock
 from depotday.days import Day
 from depotday.depots import Depot
+from depotday.depottext import read_depot
 from depotday.errors import BrokenSpan, DepotError
 from depotday.lines import Line
 from depotday.nets import Net
@@ -137,6 +138,59 @@ def some_fitting_chains(seed, number=80, **more):
 def with_cable(day, width, full):
     """The same day at another cable."""
     return day.changed(width=width, full=full)
+
+
+def day_of(times, *rows):
+    """The day of a depot whose text has these rows."""
+    return Day(read_depot("\n".join(rows)), times)
+
+
+def great_day(vehicles):
+    """A day whose game has somewhat less than 2000 standings with 3 vehicles, and more with 4."""
+    return day_of([0, 2, 3, 2], "round 6", "line a 2 2 use 1 late 1", "line b 5 5 use 2 late 2", "cable 1 6", "patience 2",
+                  *["vehicle a"] * vehicles, "page p a b > p q", "page q a > q p", "start p")
+
+
+def some_small_days(seed, number=60, **more):
+    """Days of every kind whose games are mostly small, plain and free ones among them."""
+    chance = random.Random(seed)
+    limits = {"lengths": (2, 3), "lines": (1, 3), "full": 2, **more}
+    return [random_day(chance, plain=chance.random() < 0.5, **limits) for _ in range(number)]
+
+
+def random_ringed_day(chance):
+    """A day whose turns let one line only behind each line, and another one behind each other."""
+    length, many = chance.randint(2, 4), chance.randint(1, 3)
+    names, nexts = EIGHT[:many], chance.sample(range(many), many)
+    lines, times = [], []
+    for name in names:
+        run, out = chance.randint(1, 2 * length), chance.randrange(length)
+        lines.append(Line(name, run, run, chance.randint(0, 2), chance.randint(0, min(2, length - 1))))
+        times += [out, (out + run) % length]
+    bars = [(names[i], names[j]) for i in range(many) for j in range(many) if j != nexts[i]]
+    turns = Turns(0, chance.choices(names, k=chance.randint(1, 5)), bars)
+    book = Book([("p", names, ["p"])], ["p"])
+    return Day(Depot(Clock(length, lines), Cable(chance.randint(0, 2), chance.randint(2, 3)), turns, book), times)
+
+
+def some_ringed_days(seed, number=60):
+    chance = random.Random(seed)
+    return [random_ringed_day(chance) for _ in range(number)]
+
+
+def random_standing(chance, day):
+    """A proper standing of a day, mostly one to which nothing leads."""
+    depot = day.depot
+    full, patience, lines = depot.cable.full, depot.turns.patience or 0, range(len(day.outs))
+    places = [(line, due) for line in lines for due in range(-depot.clock.lines[line].late, day.runs[line])]
+    many = chance.randint(0, 5)
+    gone = chance.sample(places, min(len(places), chance.randint(0, many)))
+    out = sorted((line, due, chance.randint(0, full)) for line, due in gone)
+    home = [(chance.randint(0, full), chance.choice(lines) if depot.turns.bars else -1, chance.randint(0, patience))
+            for _ in range(many - len(out))]
+    minute = chance.randrange(depot.clock.round_length)
+    page = chance.randrange(-1 if minute == 0 else 0, len(depot.book))
+    return page, minute, tuple(sorted(home)) if depot.free else tuple(home), tuple(out)
 
 
 class Case(unittest.TestCase):
