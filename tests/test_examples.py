@@ -51,6 +51,35 @@ True
 >>> day = Day(read_depot(text), [0, 2])
 >>> [day.runs, day.tardy, ring_chain(day).waits, ring_chain(day).stays, ring_answer(day)]
 [(2,), (3,), (1,), (0,), ('cut', (0,))]
+
+>>> from depotday.papers import decide
+>>> decide(Day(read_depot(text), [0, 2])).told()
+'all comings: broken within 7 minutes'
+
+>>> from depotday.standings import first_standing, news_list
+>>> from depotday.answering import answers, after
+>>> text = text.replace("vehicle a", "vehicle a\\nvehicle a")
+>>> day = Day(read_depot(text), [0, 2])
+>>> first = first_standing(day)
+>>> [first, news_list(day, first), answers(day, first, (0, ()))]
+[(-1, 0, ((2, -1, 0), (2, -1, 0)), ()), [(0, ())], [((0,), ())]]
+>>> after(day, first, (0, ()), ((0,), ()))
+(0, 1, ((2, -1, 0),), ((0, 1, 1),))
+
+>>> from depotday.least import least
+>>> found = least(day, "vehicles")
+>>> [found.part, found.number, len(found.plans), found.plans[0].minutes]
+['vehicles', 2, 1, 7]
+
+>>> from depotday.desks import Desk
+>>> from depotday.commands import run
+>>> desk = Desk(day)
+>>> [run(desk, "hear page day\\nanswer a 0 >"), desk.now, desk.out(), desk[0], desk.log]
+[2, (0, 1), [(0, 'a', 1)], (1, 1, 'a', 0), ['hear page day', 'answer a 0 >']]
+
+>>> from depotday.ledgers import ledger
+>>> ledger(desk)
+[' no place    units  runs  due', '  0 a            1     1   +1', '  1 home         2     0    -']
 """
 
 

@@ -36,6 +36,21 @@ FUNCTIONS = {
     "roundplans.round_plan": "chain *, width=None",
     "ringed.ring_chain": "day",
     "ringed.ring_answer": "day",
+    "standings.first_standing": "day",
+    "standings.news_list": "day standing *, latest=False",
+    "standings.queue_after": "day standing news",
+    "answering.answers": "day standing news",
+    "answering.after": "day standing news answer",
+    "papers.decide": "day *, latest=False most=2000",
+    "keeping.keep_round": "plan standing news",
+    "surveys.beat": "plan rule",
+    "least.least": "day part *, latest=False most=2000",
+    "least.most_late": "day *, latest=False most=2000",
+    "choosing.choose": "depot *, latest=False most=2000",
+    "commands.run": "desk text *, whole=False",
+    "commands.would": "desk text",
+    "commands.replay": "day rows *, memory=50 most=2000",
+    "ledgers.ledger": "desk",
 }
 CLASSES = {
     "loads.Load": "counts",
@@ -51,6 +66,16 @@ CLASSES = {
     "days.Day": "depot times",
     "chains.Chain": "day nexts waits",
     "roundplans.RoundPlan": "chain charges carries *, width=None",
+    "queues.Queue": "patience bars=()",
+    "games.Game": "day *, latest=False most=2000",
+    "papers.Paper": "day latest",
+    "papers.Table": None,
+    "papers.Plan": None,
+    "rules.Rule": "send_word charge_word",
+    "surveys.Survey": "day rule *, latest=False most=2000",
+    "least.Least": None,
+    "choosing.Choice": None,
+    "desks.Desk": "day *, memory=50 most=2000",
 }
 METHODS = {
     "loads.Load.put": "minute count",
@@ -90,6 +115,39 @@ METHODS = {
     "chains.Chain.timetable": "",
     "roundplans.RoundPlan.at": "minute",
     "roundplans.RoundPlan.level": "line place",
+    "queues.Queue.come": "vehicle line",
+    "queues.Queue.send": "orders",
+    "queues.Queue.last": "vehicle",
+    "queues.Queue.passed": "vehicle",
+    "queues.Queue.ahead": "vehicle",
+    "queues.Queue.bound": "vehicle",
+    "queues.Queue.choices": "line",
+    "queues.Queue.order": "",
+    "queues.Queue.clone": "",
+    "games.Game.news": "standing",
+    "games.Game.rank": "standing",
+    "games.Game.standings": "",
+    "papers.Paper.told": "",
+    "papers.Paper.standings": "",
+    "papers.Table.answer": "standing news",
+    "papers.Table.told": "",
+    "papers.Plan.news": "standing",
+    "papers.Plan.rank": "standing",
+    "papers.Plan.told": "",
+    "rules.Rule.every": "",
+    "rules.Rule.parse": "text",
+    "surveys.Survey.row": "",
+    "surveys.Survey.standings": "",
+    "desks.Desk.hear": "*vehicles page=''",
+    "desks.Desk.answer": "orders charge",
+    "desks.Desk.advice": "",
+    "desks.Desk.follow": "",
+    "desks.Desk.danger": "",
+    "desks.Desk.undo": "",
+    "desks.Desk.redo": "",
+    "desks.Desk.remember": "number",
+    "desks.Desk.home": "",
+    "desks.Desk.out": "",
 }
 SIGNS = {
     "loads.Load": "len iter getitem setitem contains bool abs eq add iadd sub or and xor mul rmul floordiv mod "
@@ -105,10 +163,18 @@ SIGNS = {
     "days.Day": "eq",
     "chains.Chain": "eq",
     "roundplans.RoundPlan": "eq",
+    "queues.Queue": "len contains iter eq",
+    "games.Game": "len contains iter",
+    "papers.Paper": "len contains",
+    "rules.Rule": "call str eq",
+    "surveys.Survey": "len contains",
+    "desks.Desk": "getitem len",
 }
 PROPERTIES = {
     "depots.Depot": "free plain ringed",
     "chains.Chain": "fits fleet",
+    "surveys.Survey": "holds",
+    "desks.Desk": "now page heard standing given used memory log",
 }
 
 
@@ -159,11 +225,18 @@ class Interface(unittest.TestCase):
             for name in names.split():
                 self.assertIn("__" + name + "__", vars(find(path)), path)
 
-
     def test_properties_stand_in_the_class_itself(self):
         for path, names in PROPERTIES.items():
             for name in names.split():
                 self.assertIsInstance(vars(find(path))[name], property, path)
+                self.assertEqual(vars(find(path))[name].fset is not None, name == "memory", path)
+
+    def test_papers(self):
+        for path in ("papers.Table", "papers.Plan"):
+            self.assertEqual(find(path).__bases__, (find("papers.Paper"),))
+
+    def test_class_values(self):
+        self.assertEqual(vars(find("rules.Rule"))["WORDS"], ("first", "last", "fullest", "emptiest"))
 
 
 if __name__ == "__main__":
