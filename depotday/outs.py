@@ -36,7 +36,7 @@ def short_walks(book, last):
     found = []
     while newest:
         longer = []
-        for walk in newest:
+        for walk in list(newest):
             ending = tuple(walk[-last:])
             if ending not in seen:
                 seen[ending] = True

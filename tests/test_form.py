@@ -187,6 +187,74 @@ class Form(unittest.TestCase):
             self.assertFalse(any(isinstance(part, ast.AugAssign) for part in ast.walk(node)), place)
             self.assertEqual(assigned_attributes(node), set(), place)
 
+    def test_what_a_loop_walks_is_not_changed_in_it(self):
+        for place, function in nodes():
+            if isinstance(function, ast.FunctionDef):
+                alike = names_alike(function)
+                for loop in ast.walk(function):
+                    if isinstance(loop, ast.For):
+                        walked = {name for part in walked_parts(loop.iter) for name in alike.get(part, {part})}
+                        changed = {part for row in loop.body for part in changed_parts(row)}
+                        self.assertEqual(walked & changed, set(), f"{place} {function.name}:{loop.lineno}")
+
+    def test_the_check_of_loops_itself(self):
+        for text, wrong in (("for x in xs:\n  xs.append(x)", True), ("for x in list(xs):\n  xs.append(x)", False),
+                            ("for k, x in enumerate(a.xs):\n  a.xs[k] = 1", True), ("for x in xs:\n  ys[0] += x", False),
+                            ("while ys:\n  xs = []\n  for y in ys:\n    xs.append(y)\n  ys = xs", True),
+                            ("for x in xs[1]:\n  xs[2] = x", True), ("for k in xs.items():\n  del xs[k]", True),
+                            ("for x in xs if k else ys:\n  ys.pop()", True)):
+            function = ast.parse("def f():\n" + "\n".join("  " + row for row in text.split("\n"))).body[0]
+            alike = names_alike(function)
+            found = [loop for loop in ast.walk(function) if isinstance(loop, ast.For)]
+            walked = {name for part in walked_parts(found[0].iter) for name in alike.get(part, {part})}
+            changed = {part for row in found[0].body for part in changed_parts(row)}
+            self.assertEqual(bool(walked & changed), wrong, text)
+
+
+def part_of(node):
+    """What stands for a list or a dict: a name or a field; for an item of one, this one."""
+    while isinstance(node, ast.Subscript):
+        node = node.value
+    return ast.unparse(node) if isinstance(node, (ast.Name, ast.Attribute)) else None
+
+
+def walked_parts(node):
+    """The parts that a loop over this goes over itself, not over a copy of them."""
+    if isinstance(node, ast.Call):
+        views = isinstance(node.func, ast.Attribute) and node.func.attr in ("items", "keys", "values")
+        over = getattr(node.func, "id", "") in ("enumerate", "zip", "reversed")
+        inside = [node.func.value] if views else node.args if over else []
+    else:
+        inside = {ast.IfExp: lambda: [node.body, node.orelse], ast.BoolOp: lambda: node.values}.get(type(node), list)()
+    return {part_of(node)} - {None} | {part for one in inside for part in walked_parts(one)}
+
+
+def changed_parts(tree):
+    """The parts that rows change by an item or by a method."""
+    found = set()
+    for node in ast.walk(tree):
+        if isinstance(node, ast.Subscript) and isinstance(node.ctx, (ast.Store, ast.Del)):
+            found.add(part_of(node))
+        if isinstance(node, ast.Call) and isinstance(node.func, ast.Attribute) and node.func.attr in CHANGING:
+            found.add(part_of(node.func.value))
+        if isinstance(node, ast.AugAssign):
+            found.add(part_of(node.target))
+    return found - {None}
+
+
+def names_alike(function):
+    """For each part the parts that stand for the same list or dict somewhere in a function."""
+    alike = {}
+    for node in ast.walk(function):
+        if isinstance(node, ast.Assign):
+            for target in node.targets:
+                pair = {part_of(target), *walked_parts(node.value)} - {None}
+                plain = isinstance(node.value, (ast.Name, ast.Attribute, ast.Subscript, ast.IfExp, ast.BoolOp))
+                if plain and len(pair) > 1:
+                    group = pair.union(*[alike.get(part, set()) for part in pair])
+                    alike.update({part: group for part in group})
+    return alike
+
 
 def words_over(node):
     return [ast.unparse(word) for word in node.decorator_list]
