@@ -1,7 +1,7 @@
 """Desks: a day live, with deeds that can be taken back."""
 
-from depotday.errors import (BadNumber, IsFull, NewsHeard, NoAnswer, NotHeard, NothingToRedo, NothingToUndo, NotOut,
-                             Overdue, Short, TooEarly, UnknownVehicle, WrongCharge, WrongLines, WrongPage)
+from depotday.errors import BadNumber, IsFull, NewsHeard, NoAnswer, NotHeard, NothingToRedo, NothingToUndo, NotOut
+from depotday.errors import Overdue, Short, TooEarly, UnknownVehicle, WrongCharge, WrongLines, WrongPage
 from depotday.games import Game
 from depotday.moments import Moment
 from depotday.standings import coming_pages
